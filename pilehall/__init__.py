@@ -1,0 +1,1 @@
+"""Pilehall: leaning piles that are joined, and groups that are joined and parted again."""
