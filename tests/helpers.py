@@ -5,6 +5,9 @@ import random
 BIG = 10 ** 99
 BEYOND = 10 ** 149
 
+# Numbers that are no group's, however many groups there are.
+NO_GROUP = (-1, -2, 10 ** 30, -(10 ** 30), BIG, -BEYOND)
+
 
 def pile(rank, age, left=(), right=(), reach=None, held=None):
     """A pile made by hand; its numbers are the true ones where none are given."""
@@ -117,3 +120,137 @@ def grown(things):
     for rank, age in things:
         made = told_joined(made, pile(rank, age))[0]
     return made
+
+
+class ToldDay:
+    """Points 10 to 13, word by word: every change keeps a copy of all that was there ahead of it."""
+
+    def __init__(self, deeds):
+        self.under = {}
+        self.piles = {}
+        self.put_so_far = 0
+        self.kept = []
+        self.answers = []
+        self.work = []
+        for deed in deeds:
+            answer, steps, compared = self.do(deed)
+            self.answers.append(answer)
+            self.work.append((steps, compared))
+
+    def up(self, group):
+        steps = 0
+        while group in self.under:
+            group = self.under[group]
+            steps += 1
+        return group, steps
+
+    def groups_under(self, head):
+        return [group for group in self.piles if self.up(group)[0] == head]
+
+    def keep(self, word):
+        self.kept.append((word, dict(self.under), dict(self.piles)))
+
+    def do(self, deed):
+        word = deed[0]
+        named = deed[1:2] if word in ("put", "take", "least") else deed[1:3]
+        if any(group not in self.piles for group in named):
+            return None, 0, 0
+        if word == "open":
+            self.piles[len(self.piles)] = ()
+            return len(self.piles) - 1, 0, 0
+        if word == "undo":
+            return self.go_back(), 0, 0
+        ways = [self.up(group) for group in named]
+        heads = [head for head, steps in ways]
+        steps = sum(steps for head, steps in ways)
+        if word == "same":
+            return heads[0] == heads[1], steps, 0
+        if word == "join":
+            answer, compared = self.join(*heads)
+        elif word == "put":
+            answer, compared = self.put(heads[0], deed[2])
+        else:
+            answer, compared = self.first(heads[0], word == "take")
+        return answer, steps, compared
+
+    def put(self, head, rank):
+        self.keep("put")
+        age = self.put_so_far
+        self.put_so_far += 1
+        self.piles[head], compared = told_joined(self.piles[head], pile(rank, age))
+        return age, compared
+
+    def first(self, head, is_taken):
+        there = self.piles[head]
+        if there == ():
+            return None, 0
+        if not is_taken:
+            return there[:2], 0
+        self.keep("take")
+        self.piles[head], compared = told_joined(there[2], there[3])
+        return there[:2], compared
+
+    def join(self, first, second):
+        if first == second:
+            return False, 0
+        self.keep("join")
+        upper, lower = first, second
+        if len(self.groups_under(first)) < len(self.groups_under(second)):
+            upper, lower = second, first
+        made, compared = told_joined(self.piles[first], self.piles[second])
+        self.under[lower] = upper
+        self.piles[upper] = made
+        return True, compared
+
+    def go_back(self):
+        if not self.kept:
+            return None
+        word, self.under, piles = self.kept.pop()
+        opened_since = [group for group in self.piles if group not in piles]
+        self.piles = piles
+        for group in opened_since:
+            self.piles[group] = ()
+        return word
+
+    def pile_of(self, group):
+        return self.piles[self.up(group)[0]]
+
+    def behind(self):
+        return [self.pile_of(group) for group in range(len(self.piles))]
+
+
+def mixed_day(length, seed, weights, ranks=20):
+    """A day of many deeds; weights tell how often each kind of deed comes; now and then a number is no group's."""
+    source = random.Random(seed)
+    words = list(weights)
+    deeds = []
+    opened = 0
+
+    def some_group():
+        if source.random() < 0.03:
+            return source.choice(NO_GROUP + (opened,))
+        return source.randrange(opened) if opened else 0
+
+    for word in source.choices(words, [weights[word] for word in words], k=length):
+        if word in ("open", "undo"):
+            deeds.append((word,))
+            opened += word == "open"
+        elif word in ("take", "least"):
+            deeds.append((word, some_group()))
+        elif word == "put":
+            deeds.append((word, some_group(), source.randint(-ranks, ranks)))
+        else:
+            deeds.append((word, some_group(), some_group()))
+    return deeds
+
+
+def mixed_days():
+    """Days with many things, with many joined groups, with much undone, and with everything."""
+    even = {"open": 3, "put": 6, "take": 3, "least": 2, "join": 3, "same": 2, "undo": 2}
+    days = [mixed_day(length, length, even) for length in list(range(30)) + [60, 120, 300, 600]]
+    days.append(mixed_day(1000, 1, {"open": 1, "put": 8, "take": 3, "join": 1, "undo": 1}))
+    days.append(mixed_day(1000, 2, {"open": 4, "put": 3, "join": 5, "same": 2, "least": 1}, 10 ** 100))
+    days.append(mixed_day(1000, 3, {"open": 2, "put": 5, "take": 3, "join": 3, "undo": 9}))
+    days.append(mixed_day(1000, 4, {"open": 4, "put": 1, "join": 9, "same": 2, "undo": 4}))
+    days.append(mixed_day(1300, 5, even, 2))
+    return days
